@@ -1,0 +1,43 @@
+// Package stylet: a small computer, and a wire to look into it: see DOC.md.
+package stylet
+
+import (
+	"stylet/api"
+	"stylet/wire"
+)
+
+// Machine is a computer.
+type Machine struct{}
+
+// New makes one (P2).
+func New(c api.Config) (*Machine, api.Errno) { return nil, api.OK }
+
+// Cycle does a cycle (P3).
+func (m *Machine) Cycle(nmi bool, irq bool) (api.Bus, bool) { return api.Bus{}, false }
+
+// Regs tells the registers (P4).
+func (m *Machine) Regs() api.Regs { return api.Regs{} }
+
+// Peek tells a byte (P4).
+func (m *Machine) Peek(at int) int { return 0 }
+
+// Frame gives a packet's bytes (P5).
+func Frame(seq int, body string) ([]byte, api.Errno) { return wire.Frame(seq, body) }
+
+// Scan scans bytes for packets.
+type Scan struct{ scanner wire.Scanner }
+
+// NewScan makes one (P6).
+func NewScan() *Scan { return &Scan{} }
+
+// Feed scans bytes (P6).
+func (s *Scan) Feed(b []byte) []api.Packet { return s.scanner.Feed(b) }
+
+// Stub is a stub, with a computer.
+type Stub struct{}
+
+// NewStub makes one (P2).
+func NewStub(c api.Config) (*Stub, api.Errno) { return nil, api.OK }
+
+// Feed does what bytes ask for (P7).
+func (s *Stub) Feed(b []byte) []byte { return nil }
