@@ -3,23 +3,30 @@ package stylet
 
 import (
 	"stylet/api"
+	"stylet/computer"
 	"stylet/wire"
 )
 
 // Machine is a computer.
-type Machine struct{}
+type Machine struct{ computer computer.Computer }
 
 // New makes one (P2).
-func New(c api.Config) (*Machine, api.Errno) { return nil, api.OK }
+func New(c api.Config) (*Machine, api.Errno) {
+	m := &Machine{}
+	if e := m.computer.Start(c); e != api.OK {
+		return nil, e
+	}
+	return m, api.OK
+}
 
 // Cycle does a cycle (P3).
-func (m *Machine) Cycle(nmi bool, irq bool) (api.Bus, bool) { return api.Bus{}, false }
+func (m *Machine) Cycle(nmi bool, irq bool) (api.Bus, bool) { return m.computer.Cycle(nmi, irq) }
 
 // Regs tells the registers (P4).
-func (m *Machine) Regs() api.Regs { return api.Regs{} }
+func (m *Machine) Regs() api.Regs { return m.computer.Regs() }
 
 // Peek tells a byte (P4).
-func (m *Machine) Peek(at int) int { return 0 }
+func (m *Machine) Peek(at int) int { return m.computer.Peek(at) }
 
 // Frame gives a packet's bytes (P5).
 func Frame(seq int, body string) ([]byte, api.Errno) { return wire.Frame(seq, body) }
