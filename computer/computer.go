@@ -47,7 +47,7 @@ func (c *Computer) Start(config api.Config) api.Errno {
 
 // Cycle does a cycle with the pins so, unless it has jammed.
 func (c *Computer) Cycle(nmi, irq bool) (api.Bus, bool) {
-	if c.state == jammed {
+	if c.Jammed() {
 		return api.Bus{}, false
 	}
 	if nmi && !c.nmiOn {
@@ -67,12 +67,21 @@ func (c *Computer) Regs() api.Regs {
 	r := c.behind
 	return api.Regs{
 		A: int(r.a), X: int(r.x), Y: int(r.y), S: int(r.s), P: int(r.p), PC: int(r.pc),
-		Cycles: c.cycles, Jam: c.state == jammed,
+		Cycles: c.cycles, Jam: c.Jammed(),
 	}
 }
 
 // Peek tells a byte without a cycle.
 func (c *Computer) Peek(at int) int { return int(c.look(uint16(at))) }
+
+// Poke puts a byte into memory, Rom or not, and be it behind the timer.
+func (c *Computer) Poke(at uint16, data byte) { c.memory[at] = data }
+
+// Fetches says whether the next cycle is a fetch.
+func (c *Computer) Fetches() bool { return c.state == fetching }
+
+// Jammed says whether there are no more cycles.
+func (c *Computer) Jammed() bool { return c.state == jammed }
 
 func (c *Computer) turn(irq bool) api.Bus {
 	switch c.state {

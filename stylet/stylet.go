@@ -4,6 +4,7 @@ package stylet
 import (
 	"stylet/api"
 	"stylet/computer"
+	"stylet/stub"
 	"stylet/wire"
 )
 
@@ -41,10 +42,16 @@ func NewScan() *Scan { return &Scan{} }
 func (s *Scan) Feed(b []byte) []api.Packet { return s.scanner.Feed(b) }
 
 // Stub is a stub, with a computer.
-type Stub struct{}
+type Stub struct{ stub stub.Stub }
 
 // NewStub makes one (P2).
-func NewStub(c api.Config) (*Stub, api.Errno) { return nil, api.OK }
+func NewStub(c api.Config) (*Stub, api.Errno) {
+	s := &Stub{}
+	if e := s.stub.Start(c); e != api.OK {
+		return nil, e
+	}
+	return s, api.OK
+}
 
 // Feed does what bytes ask for (P7).
-func (s *Stub) Feed(b []byte) []byte { return nil }
+func (s *Stub) Feed(b []byte) []byte { return s.stub.Feed(b) }

@@ -1,6 +1,9 @@
 package wire
 
-import "stylet/api"
+import (
+	"stylet/api"
+	"stylet/hex"
+)
 
 // Frame gives the bytes of the packet with this number and body.
 func Frame(seq int, body string) ([]byte, api.Errno) {
@@ -11,9 +14,9 @@ func Frame(seq int, body string) ([]byte, api.Errno) {
 		return nil, api.ErrBody
 	}
 	packet := []byte{start}
-	packet = appendHex(packet, byte(seq))
+	packet = hex.Append(packet, seq, 2)
 	packet = appendEscaped(packet, body)
 	total := sum(packet[1:])
 	packet = append(packet, end)
-	return appendHex(packet, total), api.OK
+	return hex.Append(packet, int(total), 2), api.OK
 }

@@ -1,6 +1,9 @@
 package wire
 
-import "stylet/api"
+import (
+	"stylet/api"
+	"stylet/hex"
+)
 
 type state uint8
 
@@ -70,11 +73,11 @@ func (s *Scanner) gather(c byte) {
 
 func readPacket(raw []byte, high, low byte) api.Packet {
 	bad := api.Packet{Bad: true}
-	total, ok := hexByte(high, low)
+	total, ok := hex.Byte(high, low)
 	if !ok || total != sum(raw) || len(raw) < 2 {
 		return bad
 	}
-	seq, ok := hexByte(raw[0], raw[1])
+	seq, ok := hex.Byte(raw[0], raw[1])
 	if !ok {
 		return bad
 	}

@@ -8,33 +8,6 @@ const (
 	flip   = 32 // what an escaped byte is xored with
 )
 
-const hexDigits = "0123456789abcdef"
-
-func appendHex(to []byte, b byte) []byte {
-	return append(to, hexDigits[b>>4], hexDigits[b&15])
-}
-
-func hexValue(c byte) (byte, bool) {
-	switch {
-	case c >= '0' && c <= '9':
-		return c - '0', true
-	case c >= 'a' && c <= 'f':
-		return c - 'a' + 10, true
-	case c >= 'A' && c <= 'F':
-		return c - 'A' + 10, true
-	}
-	return 0, false
-}
-
-func hexByte(high, low byte) (byte, bool) {
-	h, highOK := hexValue(high)
-	l, lowOK := hexValue(low)
-	if !highOK || !lowOK {
-		return 0, false
-	}
-	return h<<4 | l, true
-}
-
 func appendEscaped(to []byte, body string) []byte {
 	for i := range len(body) {
 		switch c := body[i]; c {
